@@ -1,7 +1,7 @@
 """Surveys: marks, fixed or free, and the readings between them."""
 
 from gromatic.checks import check_name, check_number
-from gromatic.errors import BadReading, NoMark
+from gromatic.errors import BadReading, NoMark, NoReading
 
 MOST = 999
 LEAST_WEIGHT = 1
@@ -111,3 +111,12 @@ class Survey:
 
     def __repr__(self):
         return f"Survey({len(self.own_marks)} marks, {len(self.own_readings)} readings)"
+
+
+def reading_at(survey, number):
+    """The reading of a survey that has this number."""
+    readings = survey.readings()
+    # True would find reading 1, and is no reading's number.
+    if isinstance(number, bool) or number not in readings:
+        raise NoReading(number)
+    return readings[number]

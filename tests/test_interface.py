@@ -9,11 +9,26 @@ FUNCTIONS = {
         "ratio": "(over, under)", "plus": "(one, other)", "minus": "(one, other)", "times": "(one, other)",
         "divided": "(one, other)", "order": "(one, other)", "size": "(one)", "floor": "(one)", "nearest": "(one)",
     },
+    "gromatic.adjust": {
+        "adjusted": "(survey)", "balanced": "(survey, placing)", "rests": "(survey, placing)",
+        "cost": "(survey, placing)", "pull": "(survey, number)",
+    },
+    "gromatic.rings": {
+        "forest": "(survey)", "ring": "(survey, number)", "closing": "(survey, row)", "rings": "(survey)",
+    },
+    "gromatic.scales": {"drawn": "(spot, step)"},
 }
 CLASSES = {
     ("gromatic.survey", "Survey"): {
         "__init__": "(self, marks, readings)", "marks": "(self)", "readings": "(self)", "names": "(self)",
         "hangs": "(self, name)", "pieces": "(self)", "loose": "(self)",
+    },
+    ("gromatic.land", "Land"): {
+        "__init__": "(self, spots, lines, sites)", "spots": "(self)", "lines": "(self)", "sites": "(self)",
+        "known": "(self)", "row": "(self, name)", "length": "(self, name)", "held": "(self)",
+    },
+    ("gromatic.scales", "Scale"): {
+        "__init__": "(self, step, *, tolerance=0, letter=1, side=16)", "slack": "(self)",
     },
 }
 
