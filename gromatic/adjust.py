@@ -1,12 +1,7 @@
 """Adjusting: the one placing of the marks that has the least cost."""
 
-from gromatic.ratios import NOUGHT, minus, plus, ratio, times
+from gromatic.ratios import NOUGHT, minus, plus, ratio, spot_of, times
 from gromatic.survey import Survey, reading_at
-
-
-def fixed_spot(at):
-    """The spot of a mark that is fixed at a pair of numbers."""
-    return (ratio(at[0], 1), ratio(at[1], 1))
 
 
 def hanging(survey):
@@ -89,7 +84,7 @@ def adjusted(survey):
     marks = survey.marks()
     readings = survey.readings()
     names = hanging(survey)
-    placing = {name: fixed_spot(marks[name]) for name in names if marks[name] is not None}
+    placing = {name: spot_of(marks[name]) for name in names if marks[name] is not None}
     # Each piece has equations of its own: together their numbers would only be greater.
     for piece in survey.pieces():
         free = [name for name in piece if name in names and marks[name] is None]
@@ -149,7 +144,7 @@ def balanced(survey, placing):
         if marks[name] is None:
             if sums[name] != (NOUGHT, NOUGHT):
                 return False
-        elif placing[name] != fixed_spot(marks[name]):
+        elif placing[name] != spot_of(marks[name]):
             return False
     return True
 

@@ -1,14 +1,9 @@
 """The land: lines and sites that lie on marks with spots."""
 
 from gromatic.errors import Loose, NoLine
-from gromatic.ratios import NOUGHT, minus, plus, size
+from gromatic.ratios import NOUGHT, plus, stretch
 
 KINDS = ("road", "shore", "border")
-
-
-def stretch(start, end):
-    """The sum of the sizes of the differences of x and of y of two spots."""
-    return plus(size(minus(end[0], start[0])), size(minus(end[1], start[1])))
 
 
 class Land:

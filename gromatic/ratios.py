@@ -1,8 +1,9 @@
-"""Ratios: tuples (over, under) of whole numbers in lowest terms, under above nought."""
+"""Ratios: tuples (over, under) of whole numbers in lowest terms, under above nought; and spots, pairs of them."""
 
 from gromatic.errors import NoRatio
 
 NOUGHT = (0, 1)
+ONE = (1, 1)
 
 
 def greatest_common(one, other):
@@ -65,3 +66,29 @@ def floor(one):
 def nearest(one):
     """The nearest number to a ratio, the greater one where it is just between two."""
     return floor(plus(one, (1, 2)))
+
+
+def lesser(one, other):
+    """The lesser one of two ratios."""
+    return one if order(one, other) < 0 else other
+
+
+def greater(one, other):
+    """The greater one of two ratios."""
+    return one if order(one, other) > 0 else other
+
+
+def spot_of(pair):
+    """The spot at a pair of numbers."""
+    return (ratio(pair[0], 1), ratio(pair[1], 1))
+
+
+def stretch(start, end):
+    """The sum of the sizes of the differences of x and of y of two spots."""
+    return plus(size(minus(end[0], start[0])), size(minus(end[1], start[1])))
+
+
+def between(start, end, share):
+    """The spot that is a share of the way from start to end."""
+    return (plus(start[0], times(share, minus(end[0], start[0]))),
+            plus(start[1], times(share, minus(end[1], start[1]))))

@@ -17,6 +17,15 @@ FUNCTIONS = {
         "forest": "(survey)", "ring": "(survey, number)", "closing": "(survey, row)", "rings": "(survey)",
     },
     "gromatic.scales": {"drawn": "(spot, step)"},
+    "gromatic.corners": {
+        "may_pass": "(row, first, last, tolerance)", "kept": "(row, tolerance, *, held=())",
+        "pieces_left": "(row, tolerance, *, held=())", "kept_holds": "(row, tolerance, told, numbers, *, held=())",
+    },
+    "gromatic.distance": {"apart": "(spot, polyline)", "bare": "(ones, others, slack)"},
+    "gromatic.lettering": {
+        "box_at": "(pair, name, letter, side)", "lettered": "(sites, letter)", "lettered_holds": "(sites, letter, told)",
+    },
+    "gromatic.tiles": {"cut": "(one, other, box)", "tile_box": "(key, side)"},
 }
 CLASSES = {
     ("gromatic.survey", "Survey"): {
