@@ -26,6 +26,10 @@ FUNCTIONS = {
         "box_at": "(pair, name, letter, side)", "lettered": "(sites, letter)", "lettered_holds": "(sites, letter, told)",
     },
     "gromatic.tiles": {"cut": "(one, other, box)", "tile_box": "(key, side)"},
+    "gromatic.ways": {
+        "joins": "(land)", "way": "(land, start, goal)", "way_holds": "(land, start, goal, told)",
+    },
+    "gromatic.shown": {"shown": "(sheet, marks)", "passed": "(sheet, marks)"},
 }
 CLASSES = {
     ("gromatic.survey", "Survey"): {
@@ -38,6 +42,11 @@ CLASSES = {
     },
     ("gromatic.scales", "Scale"): {
         "__init__": "(self, step, *, tolerance=0, letter=1, side=16)", "slack": "(self)",
+    },
+    ("gromatic.sheet", "Sheet"): {
+        "__init__": "(self, land, scale)", "land": "(self)", "scaled": "(self)", "pairs": "(self)", "traces": "(self)",
+        "image": "(self, name, number)", "slack_of": "(self, name)", "names": "(self)", "tile": "(self, key)",
+        "tiles": "(self)",
     },
 }
 

@@ -4,25 +4,9 @@ import unittest
 from fractions import Fraction
 
 from gromatic.tiles import cut, tile_box
-from helpers import fraction, spot
+from helpers import cut_anew, fraction, spot
 
 BOX = (0, 0, 8, 8)
-
-
-def is_in(point, box):
-    return box[0] <= point[0] <= box[2] and box[1] <= point[1] <= box[3]
-
-
-def cut_anew(one, other, box):
-    """The first and the last point in a box of those where a piece ends or meets a line of the rim."""
-    way = (other[0] - one[0], other[1] - one[1])
-    shares = [Fraction(0), Fraction(1)]
-    for at, line in ((0, box[0]), (1, box[1]), (0, box[2]), (1, box[3])):
-        if way[at] != 0:
-            shares.append(Fraction(line - one[at], way[at]))
-    points = [(share, (one[0] + share * way[0], one[1] + share * way[1])) for share in shares if 0 <= share <= 1]
-    points = [point for share, point in sorted(points) if is_in(point, box)]
-    return (spot(*points[0]), spot(*points[-1])) if points else None
 
 
 class Cut(unittest.TestCase):
