@@ -75,7 +75,7 @@ def span_near(piece, other, slack):
 
 
 def covered_to(spans):
-    """The share up to which the spans cover all from nought on; one of them has nought."""
+    """The share up to which the spans cover all from nought on; nought also where none of them has it."""
     reach = NOUGHT
     growing = True
     while growing:
@@ -89,11 +89,10 @@ def covered_to(spans):
 
 def bare_share(spans):
     """A share that lies in none of the spans, or None."""
-    if all([order(low, NOUGHT) > 0 for low, high in spans]):
-        return NOUGHT
     reach = covered_to(spans)
     if reach == ONE:
         return None
+    # No span begins between reach and ahead, and all that begin before them end at reach at the latest.
     ahead = ONE
     for low, high in spans:
         if order(low, reach) > 0:

@@ -119,7 +119,9 @@ class Trees(unittest.TestCase):
             taken = {alias.name for node in tree.body if isinstance(node, ast.ImportFrom) for alias in node.names}
             taken |= {node.name for node in tree.body if isinstance(node, ast.ClassDef)}
             for node in tree.body:
-                for name in bound_names(ast.Module(getattr(node, "body", []), [])):
+                inner = list(bound_names(ast.Module(getattr(node, "body", []), [])))
+                inner += [each.arg for each in ast.walk(node) if isinstance(each, ast.arg)]
+                for name in inner:
                     self.assertNotIn(name, taken, path.name)
 
 

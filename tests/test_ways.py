@@ -112,6 +112,12 @@ class Way(unittest.TestCase):
                                                {"a": NOUGHT, "b": (1, 1), "c": (2, 1), "d": (3, 1), "z": (2, 1)}))
         self.assertEqual(way(land_of(places, "abcd", "ad"), "a", "d")[1], ["a", "d"])
 
+    def test_fewest_marks_where_a_longer_list_is_found_first(self):
+        places = {"a": (1, 1), "b": (3, 2), "c": (3, 0), "d": (3, 2), "e": (2, 0), "f": (1, 1), "g": (1, 0)}
+        land = land_of(places, "bfega", "aecgf", "db", "dc")
+        self.assertEqual(way(land, "a", "b")[:2], ((5, 1), ["a", "g", "f", "b"]))
+        self.assertEqual(best_way(near_of(land), "a", "b"), (5, ["a", "g", "f", "b"]))
+
     def test_of_as_many_marks_the_first_by_names(self):
         self.assertEqual(way(land_of(self.SQUARE, "abcda"), "a", "c")[:2], ((8, 1), ["a", "b", "c"]))
         self.assertEqual(way(land_of(self.SQUARE, "abcda"), "c", "a")[:2], ((8, 1), ["c", "b", "a"]))
