@@ -6,9 +6,14 @@ LETTERS = "abcdefghijklmnopqrstuvwxyz"
 LONGEST = 6
 
 
+def is_word(text):
+    """Whether a text is one or more small letters."""
+    return text != "" and all([sign in LETTERS for sign in text])
+
+
 def is_name(name):
     """Whether a text is one to six small letters."""
-    return 1 <= len(name) <= LONGEST and all([letter in LETTERS for letter in name])
+    return len(name) <= LONGEST and is_word(name)
 
 
 def is_within(number, low, high):

@@ -8,9 +8,8 @@ LEAST_WEIGHT = 1
 MOST_WEIGHT = 9
 
 
-def check_mark(name, at):
-    """Refuse a mark that is no good."""
-    check_name(name)
+def check_place(at):
+    """Refuse a pair of numbers at which no mark is fixed; None, for a free mark, is let."""
     if at is not None:
         for number in at:
             check_number(number, -MOST, MOST)
@@ -57,7 +56,8 @@ class Survey:
 
     def __init__(self, marks, readings):
         for name in sorted(marks):
-            check_mark(name, marks[name])
+            check_name(name)
+            check_place(marks[name])
         for number in sorted(readings):
             check_reading(marks, number, readings[number])
         self.own_marks = {name: marks[name] for name in sorted(marks)}

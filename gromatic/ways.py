@@ -93,6 +93,14 @@ def way(land, start, goal):
     return (come[goal][0], marks, {name: come[name][0] for name in sorted(come)})
 
 
+def way_or_none(land, start, goal):
+    """The way from start to goal, None where it would be refused."""
+    try:
+        return way(land, start, goal)
+    except (NoMark, Loose, NoWay):
+        return None
+
+
 def length_along(land, lengths, marks):
     """The length of a list of marks, or None where it is no way."""
     if not marks or (len(marks) == 1 and marks[0] not in land.spots()):

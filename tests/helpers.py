@@ -2,7 +2,9 @@
 
 from fractions import Fraction
 
+from gromatic.errors import AbsentError, GroundError
 from gromatic.land import KINDS, Land
+from gromatic.works import Works
 
 
 def refuse(case, error, fields, call, *args, **more):
@@ -81,3 +83,78 @@ def chance_land(chance, most=60):
     sites = {name: (chance.choice(names), chance.randint(1, 9))
              for name in chance.sample(("inn", "mill", "a", "church", "well", "ford"), chance.randint(0, 6))}
     return Land(spots, chance_lines(chance, names), sites)
+
+
+def chance_deed(chance, works):
+    """A deed tuple of chance: most are good in this works, some are not."""
+    marks = works.survey().names() or ["a"]
+    readings = sorted(works.survey().readings()) or [1]
+
+    def mark():
+        return chance.choice(marks) if chance.randrange(12) else chance.choice("abcdefghijklmn")
+
+    def place():
+        return (chance.randint(-99, 99), chance.randint(-99, 99)) if chance.randrange(2) else None
+
+    def of(names, rest):
+        return chance.choice(sorted(names)) if names and chance.randrange(12) else rest
+
+    word = chance.choice(("mark", "mark", "mark", "fix", "read", "read", "read", "read", "strike", "mend", "mend", "line",
+                          "line", "unline", "site", "site", "unsite", "scale", "unscale", "route", "unroute", "note"))
+    across, up, weight = chance.randint(-60, 60), chance.randint(-60, 60), chance.randint(1, 9)
+    things = {
+        "mark": lambda: (chance.choice("abcdefghijklmn"), place()),
+        "fix": lambda: (mark(), place()),
+        "read": lambda: (mark(), mark(), across, up, weight),
+        "strike": lambda: (chance.choice(readings),),
+        "mend": lambda: (chance.choice(readings), across, up, chance.choice((None, weight))),
+        "line": lambda: (chance.choice(("lane", "moor", "way", "dike", "edge", "rim", "side")),
+                         chance.choice(("road", "road", *KINDS)),
+                         chance.choice((list, tuple))(mark() for at in range(chance.randint(2, 8)))),
+        "unline": lambda: (of(works.lines(), "lane"),),
+        "site": lambda: (chance.choice(("inn", "mill", "church", "well", "ford", "a")), mark(), weight),
+        "unsite": lambda: (of(works.sites(), "inn"),),
+        "scale": lambda: (chance.choice(("wide", "near", "far", "odd")), chance.randint(2, 12),
+                          chance.choice((0, 5, 30)), chance.randint(1, 9), chance.choice((8, 16, 64))),
+        "unscale": lambda: (of(works.scales(), "wide"),),
+        "route": lambda: (chance.choice(("whole", "back", "trip", "tour")), mark(), mark()),
+        "unroute": lambda: (of(works.routes(), "whole"),),
+        "note": lambda: (of(works.scales(), "wide"), of(works.sites(), "inn"), chance.randint(-9, 9),
+                         chance.randint(-9, 9), weight),
+    }
+    return (word, *things[word]())
+
+
+def try_deeds(works, deeds, *, as_run):
+    """Whether the deeds were done, one by one (all but the last are done then) or as a run."""
+    try:
+        if as_run:
+            works.run(deeds)
+        else:
+            for deed in deeds:
+                works.do(deed)
+    except (GroundError, AbsentError):
+        return False
+    return True
+
+
+START = (
+    ("mark", "a", (0, 0)), ("mark", "b", None), ("mark", "c", None), ("mark", "d", (60, -40)), ("mark", "e", None),
+    ("read", "a", "b", 20, 10, 1), ("read", "b", "c", 20, 0, 2), ("read", "c", "d", 19, -50, 1),
+    ("read", "b", "d", 39, -49, 3), ("scale", "wide", 7, 5, 1, 8), ("line", "lane", "road", ("a", "b", "c", "d")),
+    ("site", "inn", "b", 5), ("site", "church", "c", 1), ("route", "whole", "a", "d"),
+)
+
+
+def chance_works(chance, turns):
+    """A works in which deeds of chance were done behind those of START, some as runs, some taken back."""
+    works = Works()
+    for deed in START:
+        works.do(deed)
+    for turn in range(turns):
+        if chance.randrange(12) == 0 and works.done():
+            works.undo()
+        else:
+            deeds = [chance_deed(chance, works) for at in range(chance.choice((1, 1, 1, 2)))]
+            try_deeds(works, deeds, as_run=chance.randrange(2))
+    return works

@@ -30,6 +30,9 @@ FUNCTIONS = {
         "joins": "(land)", "way": "(land, start, goal)", "way_holds": "(land, start, goal, told)",
     },
     "gromatic.shown": {"shown": "(sheet, marks)", "passed": "(sheet, marks)"},
+    "gromatic.texts": {
+        "tile_text": "(tile)", "read_tile": "(text)", "deed_text": "(deed)", "read_deed": "(text)",
+    },
 }
 CLASSES = {
     ("gromatic.survey", "Survey"): {
@@ -47,6 +50,26 @@ CLASSES = {
         "__init__": "(self, land, scale)", "land": "(self)", "scaled": "(self)", "pairs": "(self)", "traces": "(self)",
         "image": "(self, name, number)", "slack_of": "(self, name)", "names": "(self)", "tile": "(self, key)",
         "tiles": "(self)",
+    },
+    ("gromatic.stand", "Stand"): {
+        "__init__": "(self, survey, lines, sites, scales, routes)", "survey": "(self)", "land": "(self)",
+        "sheet": "(self, name)", "scales": "(self)", "routes": "(self)", "way": "(self, name)",
+    },
+    ("gromatic.report", "Report"): {
+        "__init__": "(self, before, after)", "marks": "(self)", "drawn": "(self, scale)", "lines": "(self, scale)",
+        "names": "(self, scale)", "tiles": "(self, scale)", "routes": "(self)", "shows": "(self, route, scale)",
+    },
+    ("gromatic.works", "Works"): {
+        "__init__": "(self)", "mark": "(self, name, *, at=None)", "fix": "(self, name, at)",
+        "read": "(self, one, other, across, up, *, weight=1)", "strike": "(self, number)",
+        "mend": "(self, number, across, up, *, weight=None)", "line": "(self, name, kind, marks)",
+        "unline": "(self, name)", "site": "(self, name, mark, *, rank=5)", "unsite": "(self, name)",
+        "scale": "(self, name, step, *, tolerance=0, letter=1, side=16)", "unscale": "(self, name)",
+        "route": "(self, name, start, goal)", "unroute": "(self, name)",
+        "note": "(self, scale, site, i, j, *, weight=1)", "do": "(self, deed)", "run": "(self, deeds)",
+        "undo": "(self)", "redo": "(self)", "survey": "(self)", "stand": "(self)", "lines": "(self)",
+        "sites": "(self)", "scales": "(self)", "routes": "(self)", "report": "(self)", "done": "(self)",
+        "twin": "(self)",
     },
 }
 

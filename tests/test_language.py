@@ -125,6 +125,44 @@ class Trees(unittest.TestCase):
                     self.assertNotIn(name, taken, path.name)
 
 
+    def test_asking_methods_assign_nothing_and_end_in_a_return(self):
+        for path, tree in trees().items():
+            for node in ast.walk(tree):
+                if isinstance(node, ast.FunctionDef) and node.name in ("__eq__", "__repr__", "__str__", "__len__"):
+                    self.assertIsInstance(node.body[-1], ast.Return, (path.name, node.lineno))
+                    for inner in ast.walk(node):
+                        self.assertNotIsInstance(inner, (ast.Assign, ast.AugAssign, ast.Delete), (path.name, node.lineno))
+                    told = node.body[-1].value
+                    if node.name == "__len__":
+                        self.assertEqual(told.func.id, "len", path.name)
+                    elif node.name != "__eq__":
+                        self.assertIsInstance(told, ast.JoinedStr, path.name)
+
+    def test_only_own_errors_are_caught(self):
+        own = {node.name for node in ast.walk(ast.parse((PACKAGE / "errors.py").read_text()))
+               if isinstance(node, ast.ClassDef)}
+        for path, tree in trees().items():
+            for node in ast.walk(tree):
+                if isinstance(node, ast.ExceptHandler):
+                    caught = node.type.elts if isinstance(node.type, ast.Tuple) else [node.type]
+                    self.assertLessEqual({each.id for each in caught}, own, (path.name, node.lineno))
+
+    def test_errors_are_made_where_they_are_raised(self):
+        for path, tree in trees().items():
+            for node in ast.walk(tree):
+                if isinstance(node, ast.Raise):
+                    self.assertIsInstance(node.exc, ast.Call, (path.name, node.lineno))
+                    self.assertEqual(node.exc.keywords, [], (path.name, node.lineno))
+                    self.assertRegex(node.exc.func.id, "^[A-Z]", (path.name, node.lineno))
+
+    def test_tables_hold_no_lists_and_no_dicts(self):
+        for path, tree in trees().items():
+            for node in tree.body:
+                if isinstance(node, ast.Assign):
+                    inner = [each for each in ast.walk(node.value) if each is not node.value]
+                    self.assertFalse([each for each in inner if isinstance(each, (ast.List, ast.Dict, ast.Set))], path.name)
+
+
 class Across(unittest.TestCase):
     def test_imports_name_the_file_that_defines(self):
         for path, tree in trees().items():
