@@ -143,8 +143,8 @@ def strike_reading(ground, things):
 def mend_reading(ground, things):
     """Other numbers for a reading."""
     number, across, up, weight = things
-    one, other, old_across, old_up, old_weight = reading_at(ground.survey(), number)
-    reading = (one, other, across, up, old_weight if weight is None else weight)
+    old = reading_at(ground.survey(), number)
+    reading = (old[0], old[1], across, up, old[4] if weight is None else weight)
     check_reading(ground.own_marks, number, reading)
     ground.own_readings[number] = reading
 

@@ -75,8 +75,11 @@ class DeedCase(unittest.TestCase):
         refuse(self, error, fields, by_method, works, deed)
         refuse(self, error, fields, works.do, deed)
         refuse(self, error, fields, works.run, [deed])
+        # Its own refusals are looked for when its turn comes, TooFar at the end of the run.
+        behind, told = (NoLine, {"name": "nosuch"}) if error is TooFar else (error, fields)
+        refuse(self, behind, told, works.run, [deed, ("unline", "nosuch")])
         self.assertEqual(all_of(works), before)
-        self.assertEqual(works.calls, calls + 3)
+        self.assertEqual(works.calls, calls + 4)
         self.assertEqual(works, make())
 
     def done(self, make, deed, told=None):

@@ -4,6 +4,10 @@ import importlib
 import inspect
 import unittest
 
+from gromatic.desk import Desk
+from gromatic.scales import Scale
+from gromatic.works import Works
+
 FUNCTIONS = {
     "gromatic.ratios": {
         "ratio": "(over, under)", "plus": "(one, other)", "minus": "(one, other)", "times": "(one, other)",
@@ -33,6 +37,7 @@ FUNCTIONS = {
     "gromatic.texts": {
         "tile_text": "(tile)", "read_tile": "(text)", "deed_text": "(deed)", "read_deed": "(text)",
     },
+    "gromatic.pages": {"page": "(works)", "read_page": "(text)"},
 }
 CLASSES = {
     ("gromatic.survey", "Survey"): {
@@ -71,10 +76,35 @@ CLASSES = {
         "sites": "(self)", "scales": "(self)", "routes": "(self)", "report": "(self)", "done": "(self)",
         "twin": "(self)",
     },
+    ("gromatic.press", "Press"): {
+        "__init__": "(self, works)", "publish": "(self)", "printed": "(self)", "tiles_of": "(self, number)",
+        "patch": "(self, number)",
+    },
+    ("gromatic.reader", "Reader"): {
+        "__init__": "(self)", "take": "(self, patch)", "held": "(self)", "lacks": "(self)", "tiles": "(self)",
+        "text_at": "(self, scale, a, b)", "twin": "(self)",
+    },
+    ("gromatic.desk", "Desk"): {"__init__": "(self, *, works=None)", "say": "(self, line)"},
+}
+CONSTANTS = {
+    ("gromatic.survey", "MOST"): 999, ("gromatic.land", "KINDS"): ("road", "shore", "border"),
+    ("gromatic.scales", "SIDE"): 16, ("gromatic.lettering", "SIDES"): ("ne", "nw", "se", "sw"),
+    ("gromatic.sheet", "REACH"): 120, ("gromatic.works", "RANK"): 5,
 }
 
 
 class Interface(unittest.TestCase):
+    def test_constants(self):
+        for (module, name), value in CONSTANTS.items():
+            self.assertEqual(getattr(importlib.import_module(module), name), value)
+
+    def test_values_of_new_objects(self):
+        works = Works()
+        self.assertEqual((works.edition, works.calls), (0, 0))
+        self.assertIsInstance(Desk().works, Works)
+        scale = Scale(4)
+        self.assertEqual((scale.step, scale.tolerance, scale.letter, scale.side), (4, 0, 1, 16))
+
     def test_functions(self):
         for module, names in FUNCTIONS.items():
             for name, arguments in names.items():

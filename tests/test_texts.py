@@ -121,7 +121,8 @@ class TileTexts(unittest.TestCase):
                 self.refused(line)
 
     def test_other_forms(self):
-        for line in ("", " ", "line", "site", "name", "lines a 0 0,0 0,0", "Line a 0 0,0 0,0", "mark a -", "line a 0 0,0",
+        for line in ("", " ", "line", "site", "name", "lines a 0 0,0 0,0", "Line a 0 0,0 0,0", "mark a -", "sites a 0,0", "Site a 0,0",
+                     "names a 0,0,0,0", "Name a 0,0,0,0", "site a 0,0,0,0", "name a 0,0", "a a 0 0,0 0,0", "line a 0 0,0",
                      "line a 0 0,0 0,0 0,0", "line a 0,0 0,0", "site a", "site a 0", "site a 0,0,0", "site a 0,0 0,0",
                      "site a 0 0", "name a 0,0", "name a 0,0,0", "name a 0,0,0,0,0", "name a 0,0,0,0 0", "site  a 0,0",
                      "site a  0,0", " site a 0,0", "site a 0,0 ", "site\ta 0,0", "site a 0,0\r", "line a 0 0,0 0,0,0",
